@@ -472,7 +472,7 @@ func eachList(texts []string, most int, ahead []string, call func([]string)) {
 	}
 }
 
-// All small jobs end as the document's words say.
+// All jobs of up to 2 of these units and 3 of these on the shelf end as the document's words say.
 func TestPickAllOfEachSmallJob(t *testing.T) {
 	names := []string{"a", "b", "c"}
 	units := []string{"fun a\nret\n", "weak a\ngo b\n", "fun a\ncall c\nret\nweak b\nret\n", "fun c\ngo b\n"}
