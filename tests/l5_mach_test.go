@@ -256,12 +256,15 @@ func TestMachStepSay(t *testing.T) {
 	checkStep(t, p, impl.Mach{Acc: 9, Stack: spots(5), Outs: numbers(30)}, impl.Mach{Acc: 9, Stack: spots(5), Outs: numbers(30), Code: impl.MachFull})
 }
 
+// sums is what is held, what is added to it, and what is held then.
+var sums = []struct{ acc, n, want int }{
+	{0, 0, 0}, {0, 5, 5}, {3, -5, -2}, {-3, 5, 2}, {-3, 3, 0},
+	{999, 1, 1000}, {1000, 1, 1000}, {999, 2, 1000}, {1000, 1000, 1000}, {1000, 0, 1000}, {1000, -1, 999}, {1000, -1000, 0},
+	{-999, -1, -1000}, {-1000, -1, -1000}, {-999, -2, -1000}, {-1000, -1000, -1000}, {-1000, 0, -1000}, {-1000, 1, -999}, {-1000, 1000, 0},
+}
+
 func TestMachStepAdd(t *testing.T) {
-	for _, x := range []struct{ acc, n, want int }{
-		{0, 0, 0}, {0, 5, 5}, {3, -5, -2}, {-3, 5, 2}, {-3, 3, 0},
-		{999, 1, 1000}, {1000, 1, 1000}, {999, 2, 1000}, {1000, 1000, 1000}, {1000, 0, 1000}, {1000, -1, 999}, {1000, -1000, 0},
-		{-999, -1, -1000}, {-1000, -1, -1000}, {-999, -2, -1000}, {-1000, -1000, -1000}, {-1000, 0, -1000}, {-1000, 1, -999}, {-1000, 1000, 0},
-	} {
+	for _, x := range sums {
 		p := readProgram(t, "fun a\nsay\nadd "+strconv.Itoa(x.n)+"\nend\n")
 		stack := []impl.Spot{{Pc: 2}}
 		checkStep(t, p, impl.Mach{At: atAdd, Acc: x.acc, Stack: stack, Outs: numbers(30)}, impl.Mach{At: impl.Spot{Pc: 2}, Acc: x.want, Stack: stack, Outs: numbers(30)})

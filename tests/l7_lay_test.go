@@ -718,8 +718,9 @@ func TestLayOfEachSmallProgram(t *testing.T) {
 	}
 }
 
-// Each list of stones behind two functions of which each names both.
-func TestLayToOfEachSmallLay(t *testing.T) {
+// eachSmallLay asks for each list of stones behind two functions of which each names both, at many reaches; what is asked says whether all is within reach.
+func eachSmallLay(t *testing.T, ask func(p []impl.Fun, stones [][]string, reach int) bool) {
+	t.Helper()
 	p := readProgram(t, "fun a\nsay\ncall b\nif a\nret\nfun b\nif a\nsay\nsay\ngo b\nfun c\nret\n")
 	lists := [][]string{nil, {"a"}, {"b"}, {"a", "b"}, {"b", "a"}, {"c", "a"}, {"c", "b", "a"}}
 	ends := map[bool]int{}
@@ -727,7 +728,7 @@ func TestLayToOfEachSmallLay(t *testing.T) {
 		for _, two := range lists {
 			for _, three := range lists {
 				for reach := 1; reach <= 8; reach++ {
-					ends[checkToByModel(t, p, [][]string{one, two, three}, reach)]++
+					ends[ask(p, [][]string{one, two, three}, reach)]++
 				}
 			}
 		}
@@ -735,6 +736,10 @@ func TestLayToOfEachSmallLay(t *testing.T) {
 	if ends[true] < 100 || ends[false] < 100 {
 		t.Errorf("%v", ends)
 	}
+}
+
+func TestLayToOfEachSmallLay(t *testing.T) {
+	eachSmallLay(t, func(p []impl.Fun, stones [][]string, reach int) bool { return checkToByModel(t, p, stones, reach) })
 }
 
 // Greater programs, of long functions and of short ones, at many reaches.
