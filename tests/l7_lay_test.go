@@ -113,17 +113,34 @@ func TestLayOfNoProgram(t *testing.T) {
 		for _, reach := range layReaches {
 			checkLayOf(t, p, reach, impl.LayForm)
 		}
-		for _, l := range []impl.Lay{layWith(p), {}, {At: []int{0}, Stones: [][]string{nil}}, layWith(p, "a"), layWith(p, "", "a")} {
-			checkNotLaid(t, p, l)
-		}
 	}
 }
 
-// A lay that fits is turned so that it does not, in one thing alone each time.
 func TestLayOfWhatIsNotLaidSo(t *testing.T) {
+	checkLayOk(t, readProgram(t, layText), layWith(readProgram(t, layText), wellLaid...), 20, true)
+	eachNotLaid(t, func(p []impl.Fun, l impl.Lay) { checkNotLaid(t, p, l) })
+}
+
+// wellLaid is stones with which the program of layText is laid.
+var wellLaid = []string{"c b", "a", "a c b"}
+
+// eachNotLaid goes through what is no program, and through a program that is laid, and turned so that it is not.
+func eachNotLaid(t *testing.T, call func(p []impl.Fun, l impl.Lay)) {
+	t.Helper()
+	for _, p := range notPrograms(t) {
+		for _, l := range []impl.Lay{layWith(p), {}, {At: []int{0}, Stones: [][]string{nil}}, layWith(p, "a"), layWith(p, "", "a")} {
+			call(p, l)
+		}
+	}
 	p := readProgram(t, layText)
-	good := layWith(p, "c b", "a", "a c b")
-	checkLayOk(t, p, good, 20, true)
+	for _, l := range slices.Concat(turnedLays(p), movedLays(p), wrongStones(p)) {
+		call(p, l)
+	}
+}
+
+// turnedLays is a lay that fits, turned in its lists so that it does not.
+func turnedLays(p []impl.Fun) []impl.Lay {
+	var list []impl.Lay
 	for _, turn := range []func(*impl.Lay){
 		func(l *impl.Lay) { *l = impl.Lay{} },
 		func(l *impl.Lay) { l.At = nil },
@@ -144,26 +161,32 @@ func TestLayOfWhatIsNotLaidSo(t *testing.T) {
 		func(l *impl.Lay) { slices.Reverse(l.At) },
 		func(l *impl.Lay) { slices.Reverse(l.Stones) },
 	} {
-		l := copyLay(good)
+		l := layWith(p, wellLaid...)
 		turn(&l)
-		checkNotLaid(t, p, l)
+		list = append(list, l)
 	}
+	return list
+}
+
+// movedLays is one that fits, with functions that begin a place or more too early or too late: one alone, and with all behind it.
+func movedLays(p []impl.Fun) []impl.Lay {
+	var list []impl.Lay
 	for at := range p {
 		for _, by := range []int{-1, 1, 2, math.MaxInt/2 - 20, math.MinInt / 2} {
-			// One alone, and with all behind it.
-			one, all := copyLay(good), copyLay(good)
+			one, all := layWith(p, wellLaid...), layWith(p, wellLaid...)
 			one.At[at] += by
-			checkNotLaid(t, p, one)
 			for behind := at; behind < len(p); behind++ {
 				all.At[behind] += by
 			}
-			checkNotLaid(t, p, all)
+			list = append(list, one, all)
 		}
 	}
+	return list
 }
 
-func TestLayOfWrongStones(t *testing.T) {
-	p := readProgram(t, layText)
+// wrongStones is lays that have a stone of none of the program's names, or one that is twice behind a function.
+func wrongStones(p []impl.Fun) []impl.Lay {
+	list := []impl.Lay{layWith(p, "", strings.Repeat("a ", 1<<16))}
 	for at := range p {
 		for _, names := range []string{
 			// None of the program's, alone, ahead and behind.
@@ -171,17 +194,16 @@ func TestLayOfWrongStones(t *testing.T) {
 			// Twice in a list, one behind the other and not.
 			"a a", "a b a", "b b a", "c a b c", "a b c a b c",
 		} {
-			stones := []string{"c b", "a", "a c b"}
+			stones := slices.Clone(wellLaid)
 			stones[at] = names
-			checkNotLaid(t, p, layWith(p, stones...))
+			list = append(list, layWith(p, stones...))
 		}
 		// The empty name is none either.
-		l := layWith(p, "c b", "a", "a c b")
+		l := layWith(p, wellLaid...)
 		l.Stones[at][0] = ""
-		checkNotLaid(t, p, l)
+		list = append(list, l)
 	}
-	many := strings.Repeat("a ", 1<<16)
-	checkNotLaid(t, p, layWith(p, "", many))
+	return list
 }
 
 // LayMany and LaySame ask nothing of what they are given.
