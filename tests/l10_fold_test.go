@@ -178,14 +178,19 @@ func TestFoldOne(t *testing.T) {
 // longProgram makes a program of its text, however many functions it has.
 func longProgram(t *testing.T, text string) []impl.Fun {
 	t.Helper()
+	return readProgram(t, cutFuns(text)...)
+}
+
+// cutFuns is the text of each function that there is in a text of some.
+func cutFuns(text string) []string {
 	var texts []string
-	for _, line := range strings.SplitAfter(text, "\n") {
+	for line := range strings.Lines(text) {
 		if strings.HasPrefix(line, "fun ") || strings.HasPrefix(line, "weak ") {
 			texts = append(texts, "")
 		}
 		texts[len(texts)-1] += line
 	}
-	return readProgram(t, texts...)
+	return texts
 }
 
 func TestFoldAll(t *testing.T) {

@@ -397,8 +397,7 @@ func TestKeepReach(t *testing.T) {
 func namesIn(text string) []string {
 	var names []string
 	for _, line := range strings.Split(text, "\n")[1:] {
-		_, name, has := strings.Cut(line, " ")
-		if has && !slices.Contains(names, name) {
+		if name, is := namedBy(line); is && !slices.Contains(names, name) {
 			names = append(names, name)
 		}
 	}
